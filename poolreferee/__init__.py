@@ -1,0 +1,1 @@
+"""Pool refereed: eight-ball and nine-ball races, told shot by shot."""
