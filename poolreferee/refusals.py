@@ -38,6 +38,11 @@ def choose_refusal(race, chosen):
     return 0
 
 
+def look_refusal(race):
+    """The refusal of a look at the balls; race is None where there is none."""
+    return 0 if goes_on(race) else -2
+
+
 def goes_on(race):
     """Tell if there is a race that is not over."""
     return race is not None and not race.over

@@ -74,3 +74,7 @@ class RaceState:
         if self.over:
             return list(self.won)
         return self.won + [self.turn, self.phase, self.in_hand, len(self.balls)]
+
+    def rack_details(self):
+        """Side 0's group, both sides' fouls in a row, the breaker, and 1 while what's chosen is of a push."""
+        return [self.groups[0]] + self.fouls + [self.breaker, self.choice_of_push]

@@ -2,10 +2,9 @@
 
 import unittest
 
-from tests.helper import (DRY_BREAK, LEAST, MISS, MOST, WEAK_BREAK, all_answers, begin, choose, eight, last_answer,
-                          nine, shot)
+from tests.helper import (DRY_BREAK, LEAST, MISS, MOST, PUSH, WEAK_BREAK, all_answers, begin, choose, eight,
+                          last_answer, nine, shot)
 
-PUSH = shot(1, push=1)
 WRONG = (LEAST, -2, -1, 2, 3, MOST)
 
 

@@ -2,19 +2,8 @@
 
 import unittest
 
-from tests.helper import DRY_BREAK, MISS, WEAK_BREAK, choose, eight, shot
-
-LOWS = [1, 2, 3, 4, 5, 6, 7]
-HIGHS = [9, 10, 11, 12, 13, 14, 15]
-
-# Side 0 breaks and pots, so that it plays on at a table that is not divided yet.
-BREAK_POTS_1 = shot(2, [1])
-# Behind these, side 0 has the lows and shoots; 13 balls are left.
-SIDE_0_IS_LOW = [BREAK_POTS_1, shot(2, [2], called=2)]
-# Behind these, side 0 has the highs and shoots; 13 balls are left.
-SIDE_0_IS_HIGH = [BREAK_POTS_1, shot(9, [9], called=9)]
-# Behind these, side 0 has no low left, is to play the eight, and shoots; 8 balls are left.
-SIDE_0_ON_EIGHT = [BREAK_POTS_1, shot(2, LOWS[1:], called=2)]
+from tests.helper import (BREAK_POTS_1, DRY_BREAK, HIGHS, LOWS, MISS, SIDE_0_IS_HIGH, SIDE_0_IS_LOW, SIDE_0_ON_EIGHT,
+                          WEAK_BREAK, choose, eight, shot)
 
 
 class EightBreakTest(unittest.TestCase):

@@ -3,12 +3,18 @@
 import unittest
 
 from poolreferee.race import answers
-from tests.helper import DRY_BREAK, LEAST, MISS, MOST, WEAK_BREAK, all_answers, begin, choose, parted, row_of, shot
+from tests.helper import (DRY_BREAK, LEAST, MISS, MOST, NOW, ON, PUSH, TABLE, WEAK_BREAK, all_answers, begin, choose,
+                          parted, race_by_rote, row_of, shot)
 
 MIXED = [
     begin(7), DRY_BREAK, begin(8, 2, 0, 1), WEAK_BREAK, shot(1), choose(2), choose(1), shot(1, [1]),
     shot(2, [2, 3], called=2), shot(4, [8]), begin(9, 1), DRY_BREAK, shot(1, [], push=1), choose(0),
     shot(1, list(range(16))), shot(1, [9]), choose(0),
+]
+# All six calls, taken and refused.
+ALL_SIX = [
+    ON, NOW, TABLE, begin(8, 1, 0, 1), ON, NOW, TABLE, WEAK_BREAK, NOW, choose(0), shot(1, [1, 9], called=9), shot(3),
+    ON, NOW, TABLE, shot(10, [8]), ON, NOW, TABLE, begin(9), MISS, PUSH, ON, NOW, choose(1), NOW, TABLE,
 ]
 
 
@@ -18,6 +24,9 @@ class InterfaceTest(unittest.TestCase):
         self.assertEqual(answers([1, 0, 1, 0, 0]), [1, -1])
         self.assertEqual(answers([2, 1, 4, 0, 0, 0, 0]), [1, -2])
         self.assertEqual(answers([3, 0]), [1, -2])
+        self.assertEqual(answers([4]), [1, -2])
+        self.assertEqual(answers([5]), [3, 0, 0, 0])
+        self.assertEqual(answers([6]), [1, -2])
 
     def test_several_calls_in_one_list(self):
         calls = [1, 9, 1, 0, 1, 2, 1, 0, 0, 5, 0, 2, 2, 3, 3, 1, 2, 4, 1, 0, 0, 1, 1, 4, 3, 0, 2, 1, 0, 0, 0, 0, 1, 9]
@@ -38,6 +47,32 @@ class InterfaceTest(unittest.TestCase):
             [0, 0, 0, 0, 2, 0, 9], [-1], [2, 1, 0], [-2],
         ])
 
+    def test_all_six_calls_in_one_list(self):
+        lows, highs = list(range(2, 8)), list(range(10, 16))
+        self.assertEqual(all_answers(*ALL_SIX), [
+            [-2], [0, 0, 0], [-2], [0], [15] + list(range(1, 16)), [1, 0, 0, 1, 0, 1, 15, 0, 0, 0, 1, 0],
+            [15] + list(range(1, 16)), [0, 0, 0, 0, 3, 0, 15], [1, 0, 0, 0, 3, 0, 15, 0, 0, 0, 1, 0],
+            [0, 0, 0, 0, 2, 0, 15], [0, 0, 0, 0, 2, 0, 13], [1, 0, 0, 1, 2, 1, 13], [6] + lows,
+            [1, 0, 0, 1, 2, 1, 13, 2, 0, 0, 1, 0], [13] + lows + [8] + highs, [2, 1, 0], [-2], [0, 1, 0], [-2], [0],
+            [1, 0, 0, 1, 1, 1, 9], [0, 0, 0, 0, 3, 0, 9], [1, 1], [1, 0, 0, 0, 3, 0, 9, 0, 1, 0, 0, 1],
+            [1, 0, 0, 1, 2, 0, 9], [1, 0, 0, 1, 2, 0, 9, 0, 1, 0, 0, 0], [9] + list(range(1, 10)),
+        ])
+
+    def test_calls_without_numbers_stand_between_those_that_have_some(self):
+        calls = [4, 1, 9, 1, 0, 1, 6, 2, 1, 0, 0, 5, 0, 2, 2, 3, 4, 5, 5, 3, 1, 6]
+        told = [1, -2, 1, 0, 10, 9, 1, 2, 3, 4, 5, 6, 7, 8, 9, 7, 0, 0, 0, 1, 1, 0, 7, 2, 1, 1,
+                12, 1, 0, 0, 1, 1, 0, 7, 0, 0, 0, 1, 0, 12, 1, 0, 0, 1, 1, 0, 7, 0, 0, 0, 1, 0, 1, -3,
+                8, 7, 1, 4, 5, 6, 7, 8, 9]
+        self.assertEqual(answers(calls), told)
+
+    def test_a_list_of_250_calls_of_all_six(self):
+        calls = ([begin(9, 30)] + [MISS, ON, NOW, TABLE, choose(0)] * 50)[:250]
+        told = all_answers(*calls)
+        self.assertEqual(len(told), 250)
+        # Both sides foul by turns, so that each rack ends with the fifth foul, and whoever broke it loses it.
+        self.assertEqual(told[245:], [[-3], [2, 5, 5, 0, 0, 1, 9], [1, 1], [1, 5, 5, 0, 0, 1, 9, 0, 0, 0, 0, 0],
+                                      [9] + list(range(1, 10))])
+
     def test_a_list_of_250_calls(self):
         calls = [begin(9, 30)] + [shot(1)] * 249
         told = all_answers(*calls)
@@ -55,45 +90,38 @@ class InterfaceTest(unittest.TestCase):
         self.assertEqual(all_answers(*calls)[2:], [[0], [-4], [0, 0, 0, 0, 2, 0, 1], [-3]])
 
     def test_what_is_handed_in_is_not_changed(self):
-        calls = row_of(MIXED)
-        kept = list(calls)
-        answers(calls)
-        self.assertEqual(calls, kept)
+        for calls in (row_of(MIXED), row_of(ALL_SIX)):
+            kept = list(calls)
+            answers(calls)
+            self.assertEqual(calls, kept)
 
     def test_the_same_list_twice_gives_the_same_answer_twice(self):
-        for calls in (row_of(MIXED), row_of([begin(8), DRY_BREAK]), row_of([begin(9), MISS, shot(1), MISS])):
-            self.assertEqual(answers(calls), answers(calls))
+        for told in (MIXED, ALL_SIX, [begin(8), DRY_BREAK], [begin(9), MISS, shot(1), MISS], [NOW, ON, TABLE]):
+            self.assertEqual(answers(row_of(told)), answers(row_of(told)))
 
     def test_nothing_is_kept_from_one_time_to_the_next(self):
         answers(row_of([begin(8), WEAK_BREAK]))
         self.assertEqual(all_answers(DRY_BREAK, choose(0)), [[-2], [-2]])
+        self.assertEqual(all_answers(ON, NOW, TABLE), [[-2], [0, 0, 0], [-2]])
 
     def test_what_is_given_back_is_a_new_list(self):
-        calls = row_of([begin(8), DRY_BREAK])
+        calls = row_of([begin(8), DRY_BREAK, NOW, ON, TABLE])
         told = answers(calls)
         told.append(5)
         self.assertEqual(answers(calls), told[:-1])
 
     def test_whole_numbers_are_pythons_int(self):
-        told = answers(row_of(MIXED))
-        self.assertEqual({type(number) for number in told}, {int})
-        self.assertIs(type(told), list)
+        for calls in (MIXED, ALL_SIX):
+            told = answers(row_of(calls))
+            self.assertEqual({type(number) for number in told}, {int})
+            self.assertIs(type(told), list)
 
 
 class AnyRaceTest(unittest.TestCase):
     """What holds for any race, tried on many that are told by rote."""
 
     def told_of(self, game, seed):
-        numbers = seed
-        calls = [begin(game, 30, seed % 2, seed // 2 % 2)]
-        for call in range(120):
-            numbers = (numbers * 1103515245 + 12345) % 2147483648
-            bits = numbers // 512
-            potted = sorted({bits % 15 + 1, bits // 15 % 15 + 1})[:bits // 225 % 3]
-            first = bits // 675 % 10
-            calls.append(shot(first, potted, cushions=bits // 8 % 6 if first else 0, called=first,
-                              lost=int(bits // 7 % 5 == 0), push=int(bits // 11 % 7 == 0)))
-            calls.append(choose(bits // 13 % 2))
+        calls = race_by_rote(game, seed)
         return calls, all_answers(*calls)
 
     def assert_standing(self, game, standing):

@@ -2,9 +2,8 @@
 
 import unittest
 
-from tests.helper import DRY_BREAK, MISS, choose, nine, shot
+from tests.helper import DRY_BREAK, MISS, PUSH, choose, nine, shot
 
-PUSH = shot(1, push=1)
 LOST_PUSH = shot(1, lost=1, push=1)
 
 

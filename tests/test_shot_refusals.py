@@ -2,10 +2,9 @@
 
 import unittest
 
-from tests.helper import DRY_BREAK, LEAST, MISS, MOST, WEAK_BREAK, all_answers, begin, choose, last_answer, shot
+from tests.helper import DRY_BREAK, LEAST, MISS, MOST, PUSH, WEAK_BREAK, all_answers, begin, choose, last_answer, shot
 
 ALL_BALLS = list(range(1, 16))
-PUSH = shot(1, push=1)
 # A race in each place where a shot may come.
 IN_PLAY = [begin(8), DRY_BREAK]
 AT_BREAK = [begin(8)]

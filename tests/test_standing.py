@@ -2,11 +2,10 @@
 
 import unittest
 
-from tests.helper import DRY_BREAK, MISS, WEAK_BREAK, all_answers, begin, choose, eight, last_answer, nine, shot
+from tests.helper import DRY_BREAK, MISS, PUSH, WEAK_BREAK, all_answers, begin, choose, eight, last_answer, nine, shot
 
 # Whoever breaks wins the rack.
 WIN_BREAK = shot(1, [9])
-PUSH = shot(1, push=1)
 
 
 def winners_and_breakers(*calls):
